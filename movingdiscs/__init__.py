@@ -1,0 +1,1 @@
+"""Discs that move and cover one another, told exactly."""
