@@ -19,6 +19,11 @@ class Span:
         self.last = last
 
 
+def whole_instant(number):
+    """The instant that's just the whole number."""
+    return Instant(number, 0, 1)
+
+
 def sign_of(number):
     """1, 0 or -1, as the number is above 0, 0 or below 0."""
     if number > 0:
@@ -85,7 +90,7 @@ def span_of(square, half, rest, with_edge):
     """
     # These are whole numbers: not above 0 is the same as below 1.
     edge = 1 if with_edge else 0
-    start = Instant(0, 0, 1)
+    start = whole_instant(0)
     already = rest < edge
     if square == 0:
         return Span(True, start, None) if already else None
@@ -97,3 +102,10 @@ def span_of(square, half, rest, with_edge):
         return None
     first = start if already else Instant(-half, -under_root, square)
     return Span(already, first, Instant(-half, under_root, square))
+
+
+def has_instants_between(span, first, last):
+    """Whether a span, without its ends but the instant 0 if that's within, has instants from first to last."""
+    if span.last is not None and compared(span.last, first) <= 0:
+        return False
+    return span.already or compared(span.first, last) < 0

@@ -1,30 +1,22 @@
 """The calls on one sky, and what they answer."""
 
-from movingdiscs.instants import compared, span_of, told
+from movingdiscs.bodies import Body, groups_at, hiding_of, meeting_of, middle_at, view_of
+from movingdiscs.instants import compared, told, whole_instant
+from movingdiscs.meetings import count_behind, first_of_most, is_free_between, ordered_meetings
 
 WRONG = -1
 AS_FAR = -4
 FULL = -5
+NONE_LATER = -6
 
 MOST_BODIES = 8
 MOST_PLACE = 2000
 MOST_PACE = 100
 MOST_RADIUS = 200
 MOST_FAR = 1000
+MOST_INSTANT = 100000
 PLACE_ADDED = 1000
 PACE_ADDED = 50
-
-
-class Body:
-    """A disc: where its middle is at the instant 0, how that goes on, its radius, how far off it is."""
-
-    def __init__(self, x, y, u, v, radius, far):
-        self.x = x
-        self.y = y
-        self.u = u
-        self.v = v
-        self.radius = radius
-        self.far = far
 
 
 def counted(numbers):
@@ -32,51 +24,9 @@ def counted(numbers):
     return [len(numbers)] + numbers
 
 
-def span_within(one, other, reach, with_edge):
-    """The instants at which two middles are less far apart than reach; with with_edge, or just so far."""
-    dx = other.x - one.x
-    dy = other.y - one.y
-    du = other.u - one.u
-    dv = other.v - one.v
-    rest = dx * dx + dy * dy - reach * reach
-    return span_of(du * du + dv * dv, dx * du + dy * dv, rest, with_edge)
-
-
-def meeting_of(one, other):
-    """The instants at which two bodies lie over one another, or None."""
-    return span_within(one, other, one.radius + other.radius, False)
-
-
-def hiding_of(one, other):
-    """The instants at which the one body hides the other, or None."""
-    reach = one.radius - other.radius
-    if one.far > other.far or reach < 0:
-        return None
-    return span_within(one, other, reach, True)
-
-
 def are_two(bodies, i, j):
     """Whether both bodies are there and aren't the same."""
     return i < len(bodies) and j < len(bodies) and i != j
-
-
-def insert_meeting(meetings, meeting):
-    """Puts the meeting behind all whose first isn't later: so those of one instant stay as they came."""
-    place = len(meetings)
-    while place > 0 and compared(meetings[place - 1][2], meeting[2]) > 0:
-        place -= 1
-    meetings.insert(place, meeting)
-
-
-def ordered_meetings(bodies):
-    """All meetings by their firsts, each as the lesser body, the other one and the first."""
-    meetings = []
-    for lesser in range(len(bodies)):
-        for greater in range(lesser + 1, len(bodies)):
-            span = meeting_of(bodies[lesser], bodies[greater])
-            if span is not None:
-                insert_meeting(meetings, (lesser, greater, span.first))
-    return meetings
 
 
 def is_body_told_well(handed):
@@ -155,15 +105,63 @@ def answer_order(bodies, handed):
     rows = []
     before = None
     for meeting in meetings:
-        is_same = before is not None and compared(before, meeting[2]) == 0
-        rows.extend([meeting[0], meeting[1], 1 if is_same else 0])
-        before = meeting[2]
+        first = meeting.span.first
+        is_same = before is not None and compared(before, first) == 0
+        rows.extend([meeting.lesser, meeting.greater, 1 if is_same else 0])
+        before = first
     return [len(meetings)] + counted(rows)
 
 
+def answer_most(bodies, handed):
+    meetings = ordered_meetings(bodies)
+    first = first_of_most(meetings)
+    if first is None:
+        return [0] + counted([])
+    return [count_behind(meetings, first)] + counted(told(first))
+
+
+def answer_seen(bodies, handed):
+    if handed[0] > MOST_INSTANT:
+        return [WRONG]
+    views = [view_of(body, bodies, handed[0]) for body in bodies]
+    return [views.count(0)] + counted(views)
+
+
+def answer_joined(bodies, handed):
+    if handed[0] > MOST_INSTANT:
+        return [WRONG]
+    leasts = groups_at(bodies, handed[0])
+    return [len(set(leasts))] + counted(leasts)
+
+
+def answer_free(bodies, handed):
+    if handed[0] >= len(bodies) or handed[2] > MOST_INSTANT or handed[2] < handed[1]:
+        return [WRONG]
+    first = whole_instant(handed[1])
+    last = whole_instant(handed[2])
+    return [1 if is_free_between(bodies[handed[0]], bodies, first, last) else 0]
+
+
+def answer_next(bodies, handed):
+    if handed[0] > MOST_INSTANT:
+        return [WRONG]
+    instant = whole_instant(handed[0])
+    for meeting in ordered_meetings(bodies):
+        if compared(meeting.span.first, instant) > 0:
+            return [0] + counted([meeting.lesser, meeting.greater]) + counted(told(meeting.span.first))
+    return [NONE_LATER]
+
+
+def answer_where(bodies, handed):
+    if handed[0] >= len(bodies) or handed[1] > MOST_INSTANT:
+        return [WRONG]
+    return [0] + counted(middle_at(bodies[handed[0]], handed[1]))
+
+
 # By the calls' numbers: what answers each, and how many numbers it's handed.
-ACTS = (answer_begins, answer_body, answer_drop, answer_meets, answer_hides, answer_compare, answer_order)
-SIZES = (0, 6, 1, 2, 2, 4, 0)
+ACTS = (answer_begins, answer_body, answer_drop, answer_meets, answer_hides, answer_compare, answer_order,
+        answer_most, answer_seen, answer_joined, answer_free, answer_next, answer_where)
+SIZES = (0, 6, 1, 2, 2, 4, 0, 0, 1, 1, 3, 1, 2)
 
 
 def answers(calls):

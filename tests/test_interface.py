@@ -5,17 +5,16 @@ import io
 import unittest
 
 from movingdiscs.sky import answers
-from tests.skies import BEGINS, ORDER, Numbers, apart, body, compare, drop, hides, meets, told_body
+from tests.skies import BEGINS, MOST, ORDER, Numbers, apart, body, compare, drop, flat, free, hides, joined, meets
+from tests.skies import next_one, reckoned_line, seen, strewn_line, told_body, where
 
 SKY = [
     body(0, 0, 0, 0, 30, 1), body(100, 5, -1, 0, 10, 2), body(0, 0, 3, 0, 30, 1), body(1, 1, 0, 0, 4, 7),
     meets(0, 1), meets(0, 2), meets(0, 0), hides(0, 1), hides(2, 0), compare(0, 1, 0, 2), compare(0, 1, 0, 9),
-    ORDER, drop(1), drop(5), ORDER, told_body(2001, 0, 0, 0, 0, 0), BEGINS, ORDER,
+    ORDER, MOST, seen(0), seen(70), seen(100001), joined(0), joined(70), joined(100001), free(1, 0, 60), free(1, 0, 61),
+    free(1, 5, 4), next_one(0), next_one(70), next_one(100001), where(1, 200), where(0, 100001),
+    drop(1), drop(5), ORDER, MOST, told_body(2001, 0, 0, 0, 0, 0), BEGINS, ORDER, MOST, seen(0), joined(0), next_one(0),
 ]
-
-
-def flat(calls):
-    return [number for call in calls for number in call]
 
 
 class FormTest(unittest.TestCase):
@@ -41,8 +40,36 @@ class FormTest(unittest.TestCase):
             1, 0,
         ])
 
-    def test_order_without_meetings(self):
+    def test_how_many_numbers_then_they_of_the_later_calls(self):
+        calls = flat([
+            body(0, 0, 0, 0, 30, 1), body(100, 0, -1, 0, 10, 2), body(-5, -7, 0, -1, 1, 3),
+            MOST, seen(80), joined(80), free(1, 0, 60), free(1, 0, 61), next_one(0), next_one(60), where(2, 3),
+            seen(100001), joined(100001), free(3, 0, 0), next_one(100001), where(3, 0),
+        ])
+        self.assertEqual(answers(calls), [
+            1, 0,
+            1, 1,
+            1, 2,
+            4, 1, 2, 0, 1,
+            5, 2, 3, 0, 2, 0,
+            5, 2, 3, 0, 0, 2,
+            1, 1,
+            1, 0,
+            7, 0, 2, 0, 1, 2, 60, 1,
+            1, -6,
+            4, 0, 2, -5, -10,
+            1, -1,
+            1, -1,
+            1, -1,
+            1, -1,
+            1, -1,
+        ])
+
+    def test_lists_that_are_empty(self):
         self.assertEqual(answers([6]), [2, 0, 0])
+        self.assertEqual(answers([7]), [2, 0, 0])
+        self.assertEqual(answers([8, 0]), [2, 0, 0])
+        self.assertEqual(answers([9, 0]), [2, 0, 0])
 
     def test_any_call_may_be_the_first(self):
         self.assertEqual(answers([0]), [1, 0])
@@ -51,6 +78,13 @@ class FormTest(unittest.TestCase):
         self.assertEqual(answers([3, 0, 1]), [1, -1])
         self.assertEqual(answers([4, 0, 1]), [1, -1])
         self.assertEqual(answers([5, 0, 1, 2, 3]), [1, -1])
+        self.assertEqual(answers([6]), [2, 0, 0])
+        self.assertEqual(answers([7]), [2, 0, 0])
+        self.assertEqual(answers([8, 5]), [2, 0, 0])
+        self.assertEqual(answers([9, 5]), [2, 0, 0])
+        self.assertEqual(answers([10, 0, 5, 6]), [1, -1])
+        self.assertEqual(answers([11, 5]), [1, -6])
+        self.assertEqual(answers([12, 0, 5]), [1, -1])
 
     def test_a_list_of_whole_numbers_is_given_back(self):
         given = answers(flat(SKY))
@@ -104,12 +138,28 @@ class NothingKeptTest(unittest.TestCase):
         self.assertEqual(printed.getvalue(), "")
 
 
-class RefusalsChangeNothingTest(unittest.TestCase):
-    def test_strewn_calls_without_the_refused_ones_answer_the_same(self):
+class LinesTest(unittest.TestCase):
+    def test_lines_of_all_kinds_as_reckoned_with_many_digits(self):
+        numbers = Numbers(12)
+        taken = [0] * 13
+        refused = [0] * 13
+        for line in range(130):
+            calls = strewn_line(numbers, line % 13)
+            with self.subTest(calls=calls):
+                found = apart(answers(flat(calls)))
+                self.assertEqual(found, reckoned_line(calls))
+                for call, answer in zip(calls, found):
+                    counts = taken if answer[0] >= 0 else refused
+                    counts[call[0]] += 1
+        self.assertGreater(min(taken), 100, taken)
+        # These kinds have no refusal: begins, order and most.
+        self.assertEqual([kind for kind in range(13) if refused[kind] == 0], [0, 6, 7])
+
+    def test_without_the_refused_calls_the_others_answer_the_same(self):
         numbers = Numbers(5)
         refused_in_all = 0
         for line in range(60):
-            calls = self.strewn_calls(numbers)
+            calls = strewn_line(numbers, line % 13)
             found = apart(answers(flat(calls)))
             taken = [call for call, answer in zip(calls, found) if answer[0] >= 0]
             good = [answer for answer in found if answer[0] >= 0]
@@ -119,27 +169,24 @@ class RefusalsChangeNothingTest(unittest.TestCase):
                 self.assertEqual(apart(answers(flat(taken))), good)
         self.assertGreater(refused_in_all, 300)
 
-    def strewn_calls(self, numbers):
-        calls = []
-        for call in range(50):
-            kind = numbers.between(0, 12)
-            if kind == 0:
-                calls.append(drop(numbers.between(0, 8)))
-            elif kind == 1:
-                calls.append(ORDER)
-            elif kind == 2:
-                calls.append(compare(*[numbers.between(0, 5) for number in range(4)]))
-            elif kind == 3:
-                calls.append(hides(numbers.between(0, 8), numbers.between(0, 8)))
-            elif kind == 4:
-                calls.append(meets(numbers.between(0, 8), numbers.between(0, 8)))
-            elif kind == 5 and numbers.between(0, 5) == 0:
-                calls.append(BEGINS)
-            else:
-                calls.append(told_body(
-                    numbers.between(900, 1100), numbers.between(900, 1100), numbers.between(40, 60),
-                    numbers.between(40, 60), numbers.between(0, 40), numbers.between(0, 20)))
-        return calls
+    def test_calls_that_only_ask_change_nothing(self):
+        numbers = Numbers(6)
+        for line in range(40):
+            calls = strewn_line(numbers, line % 13)
+            found = apart(answers(flat(calls)))
+            telling = [call for call in calls if call[0] <= 2]
+            expected = [answer for call, answer in zip(calls, found) if call[0] <= 2]
+            with self.subTest(calls=calls):
+                self.assertEqual(apart(answers(flat(telling))), expected)
+
+    def test_lines_one_after_another_as_if_each_were_the_first(self):
+        numbers = Numbers(13)
+        lines = [flat(strewn_line(numbers, line % 13)) for line in range(26)]
+        before = [list(line) for line in lines]
+        first = [answers(line) for line in lines]
+        again = [answers(line) for line in reversed(lines)]
+        self.assertEqual(again[::-1], first)
+        self.assertEqual(lines, before)
 
 
 if __name__ == "__main__":

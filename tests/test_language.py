@@ -113,6 +113,34 @@ class LanguageTest(unittest.TestCase):
                 self.assertNotIn(bound, python_own, where)
                 self.assertRegex(bound, r"^[A-Za-z]\w*$", where)
 
+    def test_imports_are_from_the_file_that_defines_the_name_and_never_in_a_ring(self):
+        defined = {name[:-3]: {node.name for node in tree.body if isinstance(node, (ast.FunctionDef, ast.ClassDef))}
+                   for name, text, tree in files()}
+        drawn = {}
+        for name, text, tree in files():
+            rows = [node for node in tree.body if isinstance(node, ast.ImportFrom)]
+            drawn[name[:-3]] = {row.module.split(".")[1] for row in rows}
+            for row in rows:
+                self.assertLessEqual({alias.name for alias in row.names}, defined[row.module.split(".")[1]], name)
+        while drawn:
+            ends = [name for name in drawn if not drawn[name] & set(drawn)]
+            self.assertNotEqual(ends, [], drawn)
+            for name in ends:
+                drawn.pop(name)
+
+    def test_no_local_is_called_like_a_class_an_import_or_a_function_of_its_file(self):
+        for name, text, tree in files():
+            taken = {node.name for node in tree.body if isinstance(node, (ast.FunctionDef, ast.ClassDef))}
+            for row in tree.body:
+                if isinstance(row, ast.ImportFrom):
+                    taken |= {alias.name for alias in row.names}
+            for node in ast.walk(tree):
+                where = f"{name}:{getattr(node, 'lineno', 0)}"
+                if isinstance(node, ast.arg):
+                    self.assertNotIn(node.arg, taken, where)
+                elif isinstance(node, ast.Name) and isinstance(node.ctx, ast.Store):
+                    self.assertNotIn(node.id, taken, where)
+
     def test_methods(self):
         own = {node.name for where, node in nodes() if isinstance(node, ast.FunctionDef)}
         for where, node in nodes():

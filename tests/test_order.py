@@ -1,36 +1,15 @@
 """Promise 4: order."""
 
-import functools
 import unittest
 
 from tests.skies import BEGINS, ORDER, Numbers, body, drop, last_of, pair, run
-from tests.skies import reckoned_compared, reckoned_span, strewn_bodies
+from tests.skies import reckoned_order, strewn_bodies
 from tests.test_compare import VERY_NEAR
 
 
 def told(*rows):
     """What order is to answer of the rows: the lesser body, the other one, and 1 or 0."""
     return [len(rows), 3 * len(rows)] + [number for row in rows for number in row]
-
-
-def reckoned_order(bodies):
-    """What order is to answer of bodies told as (x, y, u, v, r), reckoned with many digits."""
-    found = []
-    for j in range(len(bodies)):
-        for i in range(j):
-            span = reckoned_span(bodies[i][:4], bodies[j][:4], bodies[i][4] + bodies[j][4], False)
-            if span is not None:
-                found.append((i, j, span[1]))
-
-    def before(one, other):
-        return reckoned_compared(one[2], other[2]) or (1 if one[:2] > other[:2] else -1)
-
-    found.sort(key=functools.cmp_to_key(before))
-    rows = []
-    for place, (i, j, first) in enumerate(found):
-        same = place > 0 and reckoned_compared(found[place - 1][2], first) == 0
-        rows.append((i, j, 1 if same else 0))
-    return told(*rows)
 
 
 class OrderTest(unittest.TestCase):
